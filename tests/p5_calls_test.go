@@ -185,16 +185,12 @@ func TestP5LongLists(t *testing.T) {
 	many := func(n int) string {
 		return strings.TrimSuffix(strings.Repeat("1, ", n), ", ")
 	}
-	// f gives as many ones as it is asked for, up to 250.
+	// lots gives as many ones as a list may have.
 	prelude := `
-		let ten = fn() { return ` + many(10) + ` }
-		let f
-		f = fn(n) { if n == 0 { return } if n == 1 { return 1 } return 1, f(n - 1) }
 		let count = fn(...) { return #{1: *...} }
 		let hundred = fn() { return ` + many(100) + ` }
-		let two = fn() { return ` + many(100) + `, hundred() }
-		let half = fn() { return ` + many(50) + `, two() }
-		let lots = half `
+		let more = fn() { return ` + many(100) + `, hundred() }
+		let lots = fn() { return ` + many(50) + `, more() } `
 	in := lots()
 	for _, c := range []struct {
 		text string
@@ -223,8 +219,8 @@ func TestP5LongLists(t *testing.T) {
 		{`print(#{1: *resume(task(lots))})`, "251"},
 		{`let t, u = resume(task(lots)) print(t)`, "error 4"},
 		{`print(count(resume(task(lots))))`, "error 4"},
-		{`each a, b in fn() { lots = nil return 1, half() } { print(a) }`, "error 4"},
-		{`let n = 0 each a, b in setkind({}, {each: fn() { return fn() { n = n + 1 if n < 2 { return half() } } }}) { print(a, b) }`, "1 1"},
+		{`each a, b in fn() { return 1, lots() } { print(a) }`, "error 4"},
+		{`let n = 0 each a, b in setkind({}, {each: fn() { return fn() { n = n + 1 if n < 2 { return lots() } } }}) { print(a, b) }`, "1 1"},
 		// A handler call puts one ahead: that is no list of expressions.
 		{`print(setkind({}, {call: fn(...) { return #{1: *...} }})(lots()))`, "251"},
 	} {

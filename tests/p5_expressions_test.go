@@ -2,6 +2,7 @@ package tests
 
 import (
 	"fmt"
+	"math"
 	"slices"
 	"strings"
 	"testing"
@@ -56,13 +57,11 @@ func TestP5Order(t *testing.T) {
 		{`let x = say(1, 5) > say(2, 6)`, 2},
 		{`let x = say(1, {x: 1})[say(2, "x")]`, 2},
 		{`let x = {[say(1, 1)]: say(2, 2), [say(3, 3)]: say(4, 4), 9: *say(5, 5)}`, 5},
-		{`say(1, say)(say(2, 3), say(4, 5))`, 0},
 		{`let a, b = say(1, 1), say(2, 2), say(3, 3)`, 3},
 		{`return say(1, 1), say(2, 2)`, 2},
 		{`let x = say(1, nil) and say(2, 2) or say(2, 3)`, 2},
 		{`let x = say(1, 1) or say(2, 2)`, 1},
 		{`let x = - say(1, 1) .. #say(2, "s")`, 2},
-		{`defer say(1, print)(say(2, 3))`, 0},
 	} {
 		r := run(t, unitFrom(say+c.text), lots())
 		got := printed(r)
@@ -70,7 +69,7 @@ func TestP5Order(t *testing.T) {
 		for i := range c.many {
 			want = append(want, fmt.Sprint(i+1))
 		}
-		if c.many > 0 && (r.Code != 0 || !slices.Equal(got, want)) {
+		if r.Code != 0 || !slices.Equal(got, want) {
 			t.Errorf("%s prints %q, want %q", c.text, got, want)
 		}
 	}
@@ -90,8 +89,7 @@ func TestP5AndOr(t *testing.T) {
 // an error.
 func TestP5Operations(t *testing.T) {
 	names := map[int]string{1: "+", 2: "-", 3: "*", 4: "/", 5: "//", 6: "%", 7: "&", 8: "|", 9: "^", 10: "<<", 11: ">>", 12: "..", 13: "==", 14: "!=", 15: "<", 16: "<=", 17: ">", 18: ">="}
-	values := map[string]impl.Value{"nil": nilValue(), "true": boolean(1), "7": number(7), "0": number(0), "- 3": number(-3), "2.5": float(2.5), `"s"`: str("s"), `"t"`: str("t"), "{}": thing(impl.KTable, 0), "print": builtin(0), "0.0 / 0": float(0)}
-	values["0.0 / 0"] = impl.Binary(impl.OpDiv, float(0), number(0)).Value
+	values := map[string]impl.Value{"nil": nilValue(), "true": boolean(1), "7": number(7), "0": number(0), "- 3": number(-3), "2.5": float(2.5), `"s"`: str("s"), `"t"`: str("t"), "{}": thing(impl.KTable, 0), "print": builtin(0), "0.0 / 0": float(math.NaN())}
 	for op, name := range names {
 		for a, x := range values {
 			for b, y := range values {

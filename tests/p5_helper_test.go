@@ -116,8 +116,7 @@ func wantPrints(t *testing.T, text string, in impl.Input, want ...string) {
 	}
 }
 
-// wantEnd asks for a run that an error leaves: the error, the trace, and that
-// it was thrown where the trace begins.
+// wantEnd asks for a run that an error leaves, with this trace.
 func wantEnd(t *testing.T, text string, in impl.Input, err, trace string) {
 	t.Helper()
 	r := run(t, unitFrom(text), in)
