@@ -1,7 +1,6 @@
 package tests
 
 import (
-	"reflect"
 	"slices"
 	"sync"
 	"testing"
@@ -10,12 +9,13 @@ import (
 )
 
 // Asked the same, Run answers the same, also when many ask at once; unit and
-// input stay as they were. (The helper run asks so in every test of a run.)
+// input stay as they were. (The helpers run and look ask so in every test of a
+// run.)
 func TestP16Run(t *testing.T) {
 	s := sequence(16)
 	for range 60 {
 		u, in := unitFrom(writeText(&s)), inputFor(&s)
-		unit, input := copyUnit(u), copyInput(in)
+		check := unchanged(t, u, in)
 		reports := make([]impl.Report, 8)
 		var wait sync.WaitGroup
 		for i := range reports {
@@ -27,9 +27,38 @@ func TestP16Run(t *testing.T) {
 				t.Fatalf("asked at once: %s\nand\n%s", told(reports[0]), told(r))
 			}
 		}
-		if !reflect.DeepEqual(unit, u) || !reflect.DeepEqual(input, in) {
-			t.Fatal("the unit or the input was written into")
+		check()
+	}
+}
+
+// So does Look, beside others that look and run.
+func TestP16Look(t *testing.T) {
+	s := sequence(1616)
+	for range 40 {
+		u, in := unitFrom(writeText(&s)), inputFor(&s)
+		check := unchanged(t, u, in)
+		report := impl.Run(u, in)
+		k := int(s.next() % uint64(len(report.Recs)+1))
+		views, reports := make([]impl.View, 6), make([]impl.Report, 2)
+		var wait sync.WaitGroup
+		for i := range views {
+			wait.Go(func() { views[i] = impl.Look(u, in, k) })
 		}
+		for i := range reports {
+			wait.Go(func() { reports[i] = impl.Run(u, in) })
+		}
+		wait.Wait()
+		for _, v := range views {
+			if v.Ok != (k < len(report.Recs)) || !sameView(v, views[0]) {
+				t.Fatalf("asked at once: %s\nand\n%s", seen(views[0]), seen(v))
+			}
+		}
+		for _, r := range reports {
+			if !sameReport(r, report) {
+				t.Fatalf("beside views: %s\nand alone\n%s", told(r), told(report))
+			}
+		}
+		check()
 	}
 }
 

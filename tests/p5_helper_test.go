@@ -38,17 +38,25 @@ func sameReport(a, b impl.Report) bool {
 	return recs && vals && reflect.DeepEqual(a, b)
 }
 
+// unchanged gives a check that unit and input are as they were.
+func unchanged(t *testing.T, u impl.Unit, in impl.Input) func() {
+	unit, input := copyUnit(u), copyInput(in)
+	return func() {
+		t.Helper()
+		if !hasNaN(u) && !reflect.DeepEqual(unit, u) {
+			t.Errorf("the unit was written into")
+		}
+		if !reflect.DeepEqual(input, in) {
+			t.Errorf("the input was written into")
+		}
+	}
+}
+
 // run asks twice, and that unit and input stay as they were.
 func run(t *testing.T, u impl.Unit, in impl.Input) impl.Report {
 	t.Helper()
-	unit, input := copyUnit(u), copyInput(in)
+	defer unchanged(t, u, in)()
 	r := impl.Run(u, in)
-	if !hasNaN(u) && !reflect.DeepEqual(unit, u) {
-		t.Errorf("the unit was written into")
-	}
-	if !reflect.DeepEqual(input, in) {
-		t.Errorf("the input was written into")
-	}
 	if second := impl.Run(u, in); !sameReport(r, second) {
 		t.Errorf("a run tells\n%s\nand the second time\n%s", told(r), told(second))
 	}

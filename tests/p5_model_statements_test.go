@@ -157,7 +157,7 @@ func (m *runModel) leaving(c *opened, node impl.Node) {
 func (c *opened) declare(refs []int, vals []impl.Value) []*holder {
 	var made []*holder
 	for i, v := range refs {
-		c.vars[v] = &holder{nthValue(vals, i)}
+		c.vars[v] = &holder{v, nthValue(vals, i)}
 		made = append(made, c.vars[v])
 	}
 	return made

@@ -30,7 +30,11 @@ type todo struct {
 	last bool
 }
 
-type holder struct{ v impl.Value }
+// holder is a variable: its number in its fn, and what it holds.
+type holder struct {
+	number int
+	v      impl.Value
+}
 
 // opened is a call that is open.
 type opened struct {
@@ -72,6 +76,7 @@ type runModel struct {
 	u           impl.Unit
 	in          impl.Input
 	r           impl.Report
+	views       []impl.View
 	next        func()
 	tables      []*modelTable
 	fns         []*modelFn
@@ -84,15 +89,26 @@ type runModel struct {
 type stopped struct{}
 
 // modelRun needs a unit and an input that are valid.
-func modelRun(u impl.Unit, in impl.Input) (r impl.Report) {
+func modelRun(u impl.Unit, in impl.Input) impl.Report {
 	m := &runModel{u: u, in: in}
+	m.run()
+	return m.r
+}
+
+// modelViews has the view at each record of the same run.
+func modelViews(u impl.Unit, in impl.Input) []impl.View {
+	m := &runModel{u: u, in: in}
+	m.run()
+	return m.views
+}
+
+func (m *runModel) run() {
 	defer func() {
 		if e := recover(); e != nil {
 			if _, ok := e.(stopped); !ok {
 				panic(e)
 			}
-			r = m.r
-			r.Code = 2
+			m.r.Code = 2
 		}
 	}()
 	m.begin()
@@ -101,7 +117,6 @@ func modelRun(u impl.Unit, in impl.Input) (r impl.Report) {
 		m.next = nil
 		next()
 	}
-	return m.r
 }
 
 func (m *runModel) begin() {
@@ -162,6 +177,36 @@ func (m *runModel) tick() {
 
 func (m *runModel) rec(kind, fn, line int, text string) {
 	m.r.Recs = append(m.r.Recs, impl.Rec{Kind: kind, Task: m.now.number, Fn: fn, Line: line, Text: text})
+	m.views = append(m.views, m.view())
+}
+
+// view goes down the row: what it meets belongs to the call that it meets next.
+func (m *runModel) view() impl.View {
+	v := impl.View{Ok: true, Task: m.now.number}
+	line, vars := 0, []*holder{}
+	for _, s := range slices.Backward(m.now.row) {
+		if line == 0 {
+			line = s.line
+		}
+		vars = append(vars, s.vars...)
+		if s.call != nil {
+			v.Calls = append(v.Calls, impl.Open{Fn: s.call.fn, Line: line, Vars: m.shown(s.call.fn, vars)})
+			line, vars = 0, nil
+		}
+	}
+	return v
+}
+
+func (m *runModel) shown(fn int, vars []*holder) []impl.Shown {
+	var out []impl.Shown
+	for n, name := range m.u.Fns[fn].Vars {
+		for _, h := range vars {
+			if h.number == n {
+				out = append(out, impl.Shown{Name: name, Text: impl.Text(h.v)})
+			}
+		}
+	}
+	return out
 }
 
 // here goes down the row: the first line that it meets belongs to the first
@@ -586,7 +631,7 @@ func (m *runModel) enter(callee impl.Value, args []impl.Value) {
 	c := &opened{fn: f.fn, callee: callee, vars: map[int]*holder{}, ups: f.ups}
 	s := &todo{call: c}
 	for v := range fn.Params {
-		c.vars[v] = &holder{nthValue(args, v)}
+		c.vars[v] = &holder{v, nthValue(args, v)}
 		s.vars = append(s.vars, c.vars[v])
 	}
 	if fn.Rest && len(args) > fn.Params {
@@ -594,12 +639,15 @@ func (m *runModel) enter(callee impl.Value, args []impl.Value) {
 	}
 	s.got = func([]impl.Value) { s.left(departure{how: "return"}) }
 	s.left = func(d departure) {
+		m.push(s) // the call is open still
 		if d.how == "return" {
 			m.rec(impl.RecBack, c.fn, 0, "")
+			m.pop()
 			m.give(d.vals...)
 			return
 		}
 		m.rec(impl.RecBack, c.fn, 0, d.how)
+		m.pop()
 		m.leave(d)
 	}
 	m.push(s)

@@ -124,21 +124,30 @@ func TestP5ArgumentsOfTheText(t *testing.T) {
 // All goroutines have ended when Run answers: of tasks that wait, that are in
 // the middle of something, and when the ticks are used up within tasks.
 func TestP5NothingGoesOn(t *testing.T) {
-	before := runtime.NumGoroutine()
-	for _, text := range []string{
-		`let f = fn() { defer print("never") yield() } for i = 1, 50, 1 { resume(task(f)) }`,
-		`let f = fn() { try { defer print("never") yield() } catch a, b { print("never") } } let t = task(f) resume(t) throw 1`,
-		`let f f = fn() { try { defer print("never") resume(task(f)) } catch a, b {} while true {} } f()`,
-	} {
-		u := unitFrom(text)
-		for ticks := range 300 {
-			in := lots()
-			in.Ticks = ticks
-			if r := impl.Run(u, in); len(printed(r)) > 0 {
-				t.Fatalf("%s\nwith %d ticks tells\n%s", text, ticks, told(r))
+	wantNoneLeft(t, func() {
+		for _, text := range []string{
+			`let f = fn() { defer print("never") yield() } for i = 1, 50, 1 { resume(task(f)) }`,
+			`let f = fn() { try { defer print("never") yield() } catch a, b { print("never") } } let t = task(f) resume(t) throw 1`,
+			`let f f = fn() { try { defer print("never") resume(task(f)) } catch a, b {} while true {} } f()`,
+		} {
+			u := unitFrom(text)
+			for ticks := range 300 {
+				in := lots()
+				in.Ticks = ticks
+				if r := impl.Run(u, in); len(printed(r)) > 0 {
+					t.Fatalf("%s\nwith %d ticks tells\n%s", text, ticks, told(r))
+				}
 			}
 		}
-	}
+	})
+}
+
+// wantNoneLeft asks that there are no more goroutines behind something than
+// there were ahead of it.
+func wantNoneLeft(t *testing.T, do func()) {
+	t.Helper()
+	before := runtime.NumGoroutine()
+	do()
 	// The last of a goroutine is done behind its last word to the others.
 	for range 100 {
 		if runtime.NumGoroutine() <= before {
